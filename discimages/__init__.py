@@ -1,0 +1,1 @@
+"""Images of discs in the form of ISO 9660, read strictly."""

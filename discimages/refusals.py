@@ -1,0 +1,5 @@
+"""The refusals that are found deep inside a reading, an error class each."""
+
+
+class BadImage(Exception):
+    pass
