@@ -26,16 +26,14 @@ class Tree:
         self.files = files
 
 
-def check_folder_place(image, record):
-    if record.size == 0 or record.size % SECTOR != 0:
-        raise BadImage()
+def check_in_image(image, record):
+    # Of 0 bytes too: where they begin and end has to be in the image.
     if record.place * SECTOR + record.size > len(image):
         raise BadImage()
 
 
-def check_file_place(image, record):
-    # A file without bytes has none that could lie outside, wherever its place is.
-    if record.size > 0 and record.place * SECTOR + record.size > len(image):
+def check_folder_size(record):
+    if record.size == 0 or record.size % SECTOR != 0:
         raise BadImage()
 
 
@@ -79,7 +77,8 @@ def check_order(records):
 
 
 def read_folder(image, folder, above):
-    check_folder_place(image, folder)
+    check_folder_size(folder)
+    check_in_image(image, folder)
     records = read_all_records(image, folder)
     if len(records) < 2:
         raise BadImage()
@@ -88,8 +87,7 @@ def read_folder(image, folder, above):
     members = records[2:]
     for record in members:
         check_name(record)
-        if not record.is_folder:
-            check_file_place(image, record)
+        check_in_image(image, record)
     check_order(members)
     return members
 

@@ -247,6 +247,32 @@ class FilesInTheImage(LookCase):
             with self.subTest(place=place):
                 self.assert_refused(Disc([File(b"A.;1", 1, place=place)]).image)
 
+    def test_an_empty_file_in_the_image_or_just_at_its_end(self):
+        for place in (0, 16, 20, 21):
+            for flags in (0, 1):
+                with self.subTest(place=place, flags=flags):
+                    disc = Disc([File(b"A.;1", 0, place=place, flags=flags)])
+                    self.assertEqual(disc.sectors, 21)
+                    self.assert_right(disc, 1, 1)
+
+    def test_an_empty_file_behind_the_end(self):
+        for place in (22, 23, 65536, 0x200000, 0x200015, 0x7FFFFFFF, 0x80000000, 0xFFFFFFFF):
+            for flags in (0, 1):
+                with self.subTest(place=place, flags=flags):
+                    disc = Disc([File(b"A.;1", 0, place=place, flags=flags)])
+                    self.assertEqual(disc.sectors, 21)
+                    self.assert_refused(disc.image)
+
+    def test_an_empty_file_in_a_folder_below(self):
+        for place, is_right in ((22, True), (23, False), (0xFFFFFFFF, False)):
+            with self.subTest(place=place):
+                disc = Disc([Folder(b"A", [File(b"X.;1", 3, place=0), File(b"Y.;1", 0, place=place)])])
+                self.assertEqual(disc.sectors, 22)
+                if is_right:
+                    self.assert_right(disc, 2, 2)
+                else:
+                    self.assert_refused(disc.image)
+
     def test_a_file_with_very_many_bytes(self):
         for size in (0x7FFFFFFF, 0x80000000, 0xFFFFFFFF):
             with self.subTest(size=size):

@@ -58,13 +58,6 @@ class OrdinaryImages(LookCase):
     def test_empty_files(self):
         self.assert_right(Disc([File(b"A.;1", 0), File(b"B.;1", 0, place=0)]), 1, 2)
 
-    def test_an_empty_file_has_no_byte_outside_wherever_its_place_is(self):
-        for place in (21, 22, 0xFFFFFFFF):
-            with self.subTest(place=place):
-                disc = Disc([File(b"A.;1", 0, place=place)])
-                self.assertEqual(disc.sectors, 21)
-                self.assert_right(disc, 1, 1)
-
     def test_several_descriptors_of_kind_0(self):
         for boots in (0, 1, 2, 5):
             with self.subTest(boots=boots):
