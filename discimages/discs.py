@@ -1,10 +1,15 @@
 """The calls: each takes an image as a list of bytes and answers with a list of numbers."""
 
 from discimages.fields import BLANK
+from discimages.listings import write_listing
 from discimages.refusals import BadImage
 from discimages.volumes import read_volume
 
 MOST_BYTES = 16777216
+
+
+def is_number_of_bytes(number):
+    return 0 <= number <= MOST_BYTES
 
 
 def show_name(name):
@@ -15,7 +20,7 @@ def show_name(name):
 
 
 def look(image):
-    if len(image) > MOST_BYTES:
+    if not is_number_of_bytes(len(image)):
         return [-2]
     try:
         volume = read_volume(image)
@@ -23,3 +28,16 @@ def look(image):
         return [-3]
     tree = volume.tree
     return [0, volume.sectors, len(tree.folders), tree.files] + show_name(volume.name)
+
+
+def list_all(most, image):
+    if not is_number_of_bytes(len(image)) or not is_number_of_bytes(most):
+        return [-2]
+    try:
+        volume = read_volume(image)
+    except BadImage:
+        return [-3]
+    listing = write_listing(volume.tree.folders[0])
+    if len(listing) > most:
+        return [-1]
+    return [len(listing)] + listing

@@ -11,12 +11,14 @@ MOST_DEEP = 8
 MOST_BELOW_TOP = 16384
 
 
-class Folder:
-    # above: the number, from 1 on, of the folder this one is in.
+class Node:
+    # A folder or a file where it stands; a folder that several names lead to has a node for each.
+    # above: the number, from 1 on, of the folder it is in. members: nodes; a file has none.
     def __init__(self, record, above, depth):
         self.record = record
         self.above = above
         self.depth = depth
+        self.members = []
 
 
 class Tree:
@@ -93,7 +95,7 @@ def read_folder(image, folder, above):
 
 
 def read_tree(image, top):
-    folders = [Folder(top, 1, 1)]
+    folders = [Node(top, 1, 1)]
     files = 0
     number = 0
     # Several records may lead to one folder, and the top one may hold itself: that this
@@ -101,11 +103,12 @@ def read_tree(image, top):
     while number < len(folders):
         folder = folders[number]
         above = folders[folder.above - 1]
-        members = read_folder(image, folder.record, above.record)
+        records = read_folder(image, folder.record, above.record)
         number = number + 1
-        below = [Folder(record, number, folder.depth + 1) for record in members if record.is_folder]
+        folder.members = [Node(record, number, folder.depth + 1) for record in records]
+        below = [node for node in folder.members if node.record.is_folder]
         folders.extend(below)
-        files = files + len(members) - len(below)
+        files = files + len(records) - len(below)
         if len(below) > 0 and folder.depth == MOST_DEEP:
             raise BadImage()
         if len(folders) - 1 + files > MOST_BELOW_TOP:

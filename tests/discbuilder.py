@@ -197,6 +197,22 @@ def answer(disc, folders, files):
     return [0, disc.sectors, folders, files] + list(name) + [0] * (32 - len(name))
 
 
+def listing(disc):
+    """What list_all is to tell of a right disc, in bytes."""
+    return listing_below(disc.top, b"")
+
+
+def listing_below(folder, way):
+    told = b""
+    for member in folder.members:
+        path = way + b"/" + member.name
+        if is_file(member):
+            told += path + b" %d\n" % member.size
+        else:
+            told += path + b"/\n" + listing_below(real_folder(member), path)
+    return told
+
+
 def one_folder_as(names, members=()):
     """One folder that stands under each of these names, as members of another."""
     folder = Folder(names[0], members)
@@ -214,3 +230,23 @@ def folder_names(count):
     signs = "0123456789ABCDEFGHIJKLMNOPQRSTUVWXYZ_"
     names = [f"{a}{b}".encode() for a in signs for b in signs]
     return names[:count]
+
+
+def chain(depth, last=()):
+    """A disc whose deepest folder is so deep, the top one being 1 deep."""
+    members = list(last)
+    for k in range(depth - 1):
+        members = [Folder(b"DOWN", members)]
+    return Disc(members)
+
+
+def crowd(folders, files, more=()):
+    """A disc with so many folders, that are one, with so many files in each."""
+    crowded = one_folder_as(folder_names(folders), [File(name) for name in file_names(files)])
+    return Disc(crowded + list(more))
+
+
+def stacked_crowd(files):
+    """A disc with 8 folders, that are one, with 23, that are one, with so many files in each."""
+    inner = one_folder_as(folder_names(23), [File(name) for name in file_names(files)])
+    return Disc(one_folder_as(folder_names(8), inner))

@@ -31,7 +31,8 @@ class ThePackage(unittest.TestCase):
 
     def test_what_the_interface_names_is_there(self):
         self.assertIn("discs.py", package_files())
-        self.assertIn("def look(image):\n", read("discs.py"))
+        for row in ("def look(image):\n", "def list_all(most, image):\n"):
+            self.assertIn(row, read("discs.py"))
 
     def test_init_is_its_docstring_alone(self):
         self.assertEqual(read("__init__.py").count("\n"), 1)

@@ -2,12 +2,12 @@ import unittest
 
 from discbuilder import MAIN, SECTOR, Disc, File, both, high, low, put
 from discimages.discs import look
-from looking import LookCase, rich_disc
+from disccase import DiscCase, rich_disc
 
 OTHER_NUMBERS_4 = (0, 1, 255, 256, 65536, 0x7FFFFFFF, 0x80000000, 0xFFFFFFFF)
 
 
-class MainDescriptor(LookCase):
+class MainDescriptor(DiscCase):
     def assert_byte_is_held(self, at, right):
         disc = rich_disc()
         self.assertEqual(disc.image[MAIN + at], right)
@@ -77,7 +77,7 @@ class MainDescriptor(LookCase):
         self.assert_refused_with(disc, MAIN + 148, high(disc.lower_place, 4))
 
 
-class TopRecord(LookCase):
+class TopRecord(DiscCase):
     AT = MAIN + 156
 
     def test_its_length(self):
@@ -142,7 +142,7 @@ class TopRecord(LookCase):
             self.assert_refused_with(rich_disc(), self.AT + 33, [value])
 
 
-class Followers(LookCase):
+class Followers(DiscCase):
     def test_other_kinds_between(self):
         for value in list(range(1, 255)):
             self.assert_refused_with(rich_disc(boots=2), 17 * SECTOR, [value])
@@ -185,7 +185,7 @@ class Followers(LookCase):
         self.assert_refused(image)
 
 
-class Length(LookCase):
+class Length(DiscCase):
     def test_the_empty_image(self):
         self.assert_refused([])
 

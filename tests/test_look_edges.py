@@ -1,18 +1,11 @@
 import unittest
 
-from discbuilder import MAIN, SECTOR, Alias, Disc, File, Folder, both, file_names, folder_names, one_folder_as, put
-from looking import LookCase
+from discbuilder import MAIN, SECTOR, Alias, Disc, File, Folder, both, chain, crowd, file_names, folder_names, put
+from discbuilder import stacked_crowd
+from disccase import DiscCase
 
 
-def chain(depth, last=()):
-    """A disc whose deepest folder is so deep, the top one being 1 deep."""
-    members = list(last)
-    for k in range(depth - 1):
-        members = [Folder(b"DOWN", members)]
-    return Disc(members)
-
-
-class Depth(LookCase):
+class Depth(DiscCase):
     def test_8_deep(self):
         self.assert_right(chain(8), 8, 0)
 
@@ -43,7 +36,7 @@ class Depth(LookCase):
         self.assert_refused(Disc(top=top).image)
 
 
-class FolderNames(LookCase):
+class FolderNames(DiscCase):
     def test_lengths_that_fit(self):
         for length in (1, 2, 30, 31):
             with self.subTest(length=length):
@@ -79,7 +72,7 @@ class FolderNames(LookCase):
                 self.assert_refused(Disc([Folder(name)]).image)
 
 
-class FileNames(LookCase):
+class FileNames(DiscCase):
     def assert_name_fits(self, name):
         with self.subTest(name=name):
             self.assert_right(Disc([File(name, 3)]), 1, 1)
@@ -132,7 +125,7 @@ class FileNames(LookCase):
         self.assert_name_is_refused(b"README")
 
 
-class Order(LookCase):
+class Order(DiscCase):
     def assert_order(self, first, second):
         for make in (File, Folder):
             for other in (File, Folder):
@@ -196,36 +189,26 @@ class Order(LookCase):
             self.assert_refused(Disc([Folder(name) for name in wrong]).image)
 
 
-class HowMany(LookCase):
-    def crowd(self, folders, files, more=()):
-        """So many folders, that are one, with so many files in each."""
-        crowded = one_folder_as(folder_names(folders), [File(name) for name in file_names(files)])
-        return Disc(crowded + list(more))
-
+class HowMany(DiscCase):
     def test_16384(self):
-        self.assert_right(self.crowd(32, 511), 33, 32 * 511)
+        self.assert_right(crowd(32, 511), 33, 32 * 511)
 
     def test_one_file_more(self):
-        self.assert_refused(self.crowd(32, 511, [File(b"ZZ.;1")]).image)
+        self.assert_refused(crowd(32, 511, [File(b"ZZ.;1")]).image)
 
     def test_one_folder_more(self):
-        self.assert_refused(self.crowd(32, 511, [Folder(b"ZZ")]).image)
-
-    def stacked_crowd(self, files):
-        """8 folders, that are one, with 23, that are one, with so many files in each."""
-        inner = one_folder_as(folder_names(23), [File(name) for name in file_names(files)])
-        return Disc(one_folder_as(folder_names(8), inner))
+        self.assert_refused(crowd(32, 511, [Folder(b"ZZ")]).image)
 
     def test_16384_in_two_levels(self):
         self.assertEqual(8 + 8 * 23 + 8 * 23 * 88, 16384)
-        self.assert_right(self.stacked_crowd(88), 1 + 8 + 8 * 23, 8 * 23 * 88)
-        self.assert_refused(self.stacked_crowd(89).image)
+        self.assert_right(stacked_crowd(88), 1 + 8 + 8 * 23, 8 * 23 * 88)
+        self.assert_refused(stacked_crowd(89).image)
 
     def test_many_more(self):
-        self.assert_refused(self.crowd(40, 600).image)
+        self.assert_refused(crowd(40, 600).image)
 
 
-class FilesInTheImage(LookCase):
+class FilesInTheImage(DiscCase):
     def test_a_file_that_ends_just_at_the_end(self):
         for size in (1, 2047, 2048):
             with self.subTest(size=size):

@@ -2,12 +2,12 @@ import unittest
 
 from discbuilder import SECTOR, Alias, Disc, File, Folder, both, high, low, put, record
 from discimages.discs import look
-from looking import LookCase, rich_disc
+from disccase import DiscCase, rich_disc
 
 OTHER_NUMBERS_4 = (0, 1, 255, 256, 65536, 0x7FFFFFFF, 0x80000000, 0xFFFFFFFF)
 
 
-class RecordFields(LookCase):
+class RecordFields(DiscCase):
     """Each field of a record, in each kind of record: its first two, a file's, a folder's."""
 
     def records(self):
@@ -108,7 +108,7 @@ class RecordFields(LookCase):
         self.assert_refused_with(disc, disc.top.record_at(3) + 25, [0])
 
 
-class PlaceOfAFolder(LookCase):
+class PlaceOfAFolder(DiscCase):
     def assert_size_is_refused(self, size):
         """Told so in every place that tells it."""
         disc = Disc([Folder(b"A")], spare=3)
@@ -165,7 +165,7 @@ class PlaceOfAFolder(LookCase):
             self.assert_refused(image)
 
 
-class Sectors(LookCase):
+class Sectors(DiscCase):
     def test_zeros_behind_the_last_record(self):
         disc = Disc([Folder(b"A", [File(b"X.;1")])])
         for folder in disc.folders:
@@ -282,7 +282,7 @@ class Sectors(LookCase):
             self.assert_refused_with(disc, (disc.top.place + 1) * SECTOR - len(values), values)
 
 
-class FirstTwoRecords(LookCase):
+class FirstTwoRecords(DiscCase):
     """What they say of the folder itself and of the one it is in; told rightly both ways."""
 
     def links(self):
@@ -371,7 +371,7 @@ class FirstTwoRecords(LookCase):
         self.assert_refused_with(disc, start, record(b"A.;1", 0, 0, 0) + [0] * 30)
 
 
-class SharedFolders(LookCase):
+class SharedFolders(DiscCase):
     def test_a_folder_that_stands_in_two_others(self):
         # It can tell but one of them as the folder it is in.
         inner = Folder(b"X")

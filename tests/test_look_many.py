@@ -5,7 +5,7 @@ import unittest
 
 from discbuilder import MAIN, SECTOR, Disc, File, Folder, record_length
 from discimages.discs import look
-from looking import LookCase, rich_disc
+from disccase import DiscCase, answers, rich_disc
 
 
 def member_names(folder):
@@ -41,13 +41,13 @@ def choices(disc):
     return places
 
 
-class EveryByte(LookCase):
+class EveryByte(DiscCase):
     def assert_each_refused(self, disc, places, mask):
         self.assertEqual(look(disc.image)[0], 0)
         image = list(disc.image)
         for at in places:
             image[at] ^= mask
-            if look(image) != [-3]:
+            if answers(image) != [[-3]] * 3:
                 self.fail(f"byte {at % SECTOR} of sector {at // SECTOR} may be {image[at]}")
             image[at] ^= mask
 
@@ -65,10 +65,10 @@ class EveryByte(LookCase):
         told = set(told_bytes(disc)) | set(range(MAIN + 40, MAIN + 72))
         for mask in (1, 128, 255):
             image = [value if at in told else value ^ mask for at, value in enumerate(disc.image)]
-            self.assertEqual(look(image), look(disc.image))
+            self.assert_same_answers(image, disc.image)
 
 
-class ByChance(LookCase):
+class ByChance(DiscCase):
     SIGNS = b"ABCDEFGHIJKLMNOPQRSTUVWXYZ0123456789_"
 
     def signs(self, chance, least, most):
@@ -121,8 +121,14 @@ class ByChance(LookCase):
             changed = list(image)
             for times in range(chance.randint(1, 4)):
                 changed[chance.randrange(MAIN, len(image))] = chance.choice((0, 1, 2, 34, 255, chance.randrange(256)))
-            answered = look(changed)
-            self.assertTrue(answered == [-3] or (answered[0] == 0 and len(answered) == 36))
+            looked, briefly, listed = answers(changed)
+            if looked == [-3]:
+                self.assertEqual([briefly, listed], [[-3]] * 2)
+            else:
+                self.assertEqual((looked[0], len(looked)), (0, 36))
+                self.assertEqual(listed[0], len(listed) - 1)
+                self.assertEqual(listed[1:].count(10), looked[2] - 1 + looked[3])
+                self.assertEqual(briefly, [0] if listed == [0] else [-1])
 
     def test_bytes_at_random_end_with_an_answer(self):
         chance = random.Random(4)
@@ -130,7 +136,7 @@ class ByChance(LookCase):
             self.assert_refused([chance.randrange(256) for k in range(chance.choice((10, 2048, 36864, 100000)))])
 
 
-class TheBuilder(LookCase):
+class TheBuilder(DiscCase):
     def test_lengths_of_records(self):
         self.assertEqual([record_length(b"N" * k) for k in range(1, 7)], [34, 36, 36, 38, 38, 40])
 

@@ -2,10 +2,10 @@ import unittest
 
 from discbuilder import MAIN, SECTOR, Alias, Disc, File, Folder, both, file_names, folder_names, put
 from discimages.discs import look
-from looking import LookCase, rich_disc
+from disccase import DiscCase, rich_disc
 
 
-class OrdinaryImages(LookCase):
+class OrdinaryImages(DiscCase):
     def test_only_the_top_folder_number_by_number(self):
         disc = Disc(name=b"DISC")
         self.assertEqual(disc.sectors, 21)
@@ -86,7 +86,7 @@ class OrdinaryImages(LookCase):
             put(image, other * SECTOR, disc.image[place * SECTOR:(place + 1) * SECTOR])
         put(image, MAIN + 140, [second, 0, 0, 0])
         put(image, MAIN + 148, [0, 0, 0, first])
-        self.assertEqual(look(image), look(disc.image))
+        self.assert_same_answers(image, disc.image)
 
     def test_the_most_sectors_that_fit(self):
         disc = Disc([File(b"A.;1", 27 * SECTOR)])
@@ -94,7 +94,7 @@ class OrdinaryImages(LookCase):
         self.assert_right(disc, 1, 1)
 
 
-class VolumeNames(LookCase):
+class VolumeNames(DiscCase):
     def assert_name(self, told, shown):
         disc = Disc([File(b"A.;1", 1)], name=told)
         self.assertEqual(len(told), 32)
@@ -126,7 +126,7 @@ class VolumeNames(LookCase):
         self.assert_name(b"A \0" + b" " * 29, b"A \0" + b"\0" * 29)
 
 
-class OneCallByItself(LookCase):
+class OneCallByItself(DiscCase):
     def test_what_is_handed_in_is_the_same_afterwards(self):
         right = rich_disc().image
         wrong = put(list(right), MAIN, [2])
@@ -166,7 +166,7 @@ class OneCallByItself(LookCase):
         self.assertEqual(look([0] * 16777216), [-3])
 
 
-class BytesThatAreNotTold(LookCase):
+class BytesThatAreNotTold(DiscCase):
     """The builder fills them with noise; here they are other ones."""
 
     def test_bytes_of_any_kind(self):
@@ -179,7 +179,7 @@ class BytesThatAreNotTold(LookCase):
             image = list(disc.image)
             for at in at_places:
                 image[at] = value
-            self.assertEqual(look(image), look(disc.image))
+            self.assert_same_answers(image, disc.image)
 
     def test_seven_bytes_of_a_record(self):
         disc = rich_disc()

@@ -2,7 +2,7 @@ import unittest
 
 from discbuilder import MAIN, SECTOR, Disc, File, Folder, both, entry, folder_names, high, low, one_folder_as, put
 from discimages.discs import look
-from looking import LookCase, rich_disc
+from disccase import DiscCase, rich_disc
 
 OTHER_NUMBERS_2 = (0, 1, 2, 3, 255, 256, 512, 0x7FFF, 0x8000, 0xFFFF)
 OTHER_NUMBERS_4 = (0, 1, 16, 255, 256, 65536, 0x7FFFFFFF, 0x80000000, 0xFFFFFFFF)
@@ -25,7 +25,7 @@ def write_tables(disc, instances, which=(0, 1), make_entry=entry):
     return image
 
 
-class Entries(LookCase):
+class Entries(DiscCase):
     """Each field of each entry, in each of the two tables."""
 
     def entries(self):
@@ -115,7 +115,7 @@ class Entries(LookCase):
             self.assert_refused(put(image, MAIN + 156 + 33, [value]))
 
 
-class OrderAndLength(LookCase):
+class OrderAndLength(DiscCase):
     def broad_disc(self):
         first = Folder(b"A", [Folder(b"X", [Folder(b"P")]), Folder(b"Y")])
         second = Folder(b"B", [Folder(b"V"), Folder(b"W", [Folder(b"Q")])])
@@ -127,7 +127,7 @@ class OrderAndLength(LookCase):
         expected = [(b"\0", 1), (b"A", 1), (b"B", 1), (b"X", 2), (b"Y", 2), (b"V", 3), (b"W", 3), (b"P", 4), (b"Q", 7)]
         self.assertEqual(told, expected)
         self.assert_right(disc, 9, 1)
-        self.assertEqual(look(write_tables(disc, disc.instances)), look(disc.image))
+        self.assert_same_answers(write_tables(disc, disc.instances), disc.image)
 
     def test_each_two_neighbours_changed(self):
         disc = self.broad_disc()
@@ -205,7 +205,7 @@ class OrderAndLength(LookCase):
                 self.assert_refused_with(disc, at, write(number, 2))
 
 
-class TablesInTheImage(LookCase):
+class TablesInTheImage(DiscCase):
     def moved_to_the_end(self, disc):
         """The disc's image with either table once more behind all else, and told to be there."""
         table_sectors = disc.higher_place - disc.lower_place
