@@ -2,10 +2,12 @@
 
 from discimages.fields import BLANK
 from discimages.listings import write_listing
-from discimages.refusals import BadImage
+from discimages.paths import cut_piece, find_file
+from discimages.refusals import BadImage, NoFile
 from discimages.volumes import read_volume
 
 MOST_BYTES = 16777216
+MOST_IN_PATH = 1024
 
 
 def is_number_of_bytes(number):
@@ -41,3 +43,18 @@ def list_all(most, image):
     if len(listing) > most:
         return [-1]
     return [len(listing)] + listing
+
+
+def file(start, most, image, path):
+    if not is_number_of_bytes(len(image)) or not is_number_of_bytes(most):
+        return [-2]
+    if len(path) > MOST_IN_PATH or start < 0:
+        return [-2]
+    try:
+        record = find_file(read_volume(image).tree.folders[0], path)
+    except BadImage:
+        return [-3]
+    except NoFile:
+        return [-4]
+    piece = cut_piece(image, record, start, most)
+    return [len(piece)] + piece

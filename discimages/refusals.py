@@ -3,3 +3,7 @@
 
 class BadImage(Exception):
     pass
+
+
+class NoFile(Exception):
+    pass

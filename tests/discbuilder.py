@@ -38,11 +38,15 @@ def entry(name, place, above, write):
 
 
 class File:
-    """place: where it lies; without one, it is given sectors of its own behind the folders."""
+    """place: where it lies; without one, it is given sectors of its own behind the folders.
 
-    def __init__(self, name, size=0, place=None, flags=0):
+    values: its bytes; without them, it has so many of those that lie there anyway.
+    """
+
+    def __init__(self, name, size=0, place=None, flags=0, values=()):
         self.name = name
-        self.size = size
+        self.size = size if len(values) == 0 else len(values)
+        self.values = list(values)
         self.place = place
         self.flags = flags
 
@@ -153,6 +157,10 @@ class Disc:
             for name, folder, above in self.instances:
                 table += entry(name, folder.place, above, write)
             put(image, place * SECTOR, table)
+        for folder in self.folders:
+            for member in folder.members:
+                if is_file(member) and len(member.values) > 0:
+                    put(image, member.place * SECTOR, member.values)
         return image
 
     def write_descriptors(self, image):
@@ -197,20 +205,30 @@ def answer(disc, folders, files):
     return [0, disc.sectors, folders, files] + list(name) + [0] * (32 - len(name))
 
 
-def listing(disc):
-    """What list_all is to tell of a right disc, in bytes."""
-    return listing_below(disc.top, b"")
-
-
-def listing_below(folder, way):
-    told = b""
+def walk(folder, way=b""):
+    """Everything below a folder, each with its path, in the order that list_all is to keep."""
     for member in folder.members:
         path = way + b"/" + member.name
-        if is_file(member):
-            told += path + b" %d\n" % member.size
-        else:
-            told += path + b"/\n" + listing_below(real_folder(member), path)
-    return told
+        yield path, member
+        if not is_file(member):
+            yield from walk(real_folder(member), path)
+
+
+def files_of(disc):
+    """Each path that leads to a file, with that file."""
+    return [(path, member) for path, member in walk(disc.top) if is_file(member)]
+
+
+def listing(disc):
+    """What list_all is to tell of a right disc, in bytes."""
+    lines = [path + (b" %d\n" % member.size if is_file(member) else b"/\n") for path, member in walk(disc.top)]
+    return b"".join(lines)
+
+
+def bytes_of(disc, file):
+    """The bytes of a file, as they lie in the image."""
+    start = file.place * SECTOR
+    return disc.image[start:start + file.size]
 
 
 def one_folder_as(names, members=()):

@@ -31,7 +31,7 @@ class ThePackage(unittest.TestCase):
 
     def test_what_the_interface_names_is_there(self):
         self.assertIn("discs.py", package_files())
-        for row in ("def look(image):\n", "def list_all(most, image):\n"):
+        for row in ("def look(image):\n", "def list_all(most, image):\n", "def file(start, most, image, path):\n"):
             self.assertIn(row, read("discs.py"))
 
     def test_init_is_its_docstring_alone(self):

@@ -4,7 +4,7 @@ import unittest
 
 from discbuilder import MAIN, SECTOR, Alias, Disc, File, Folder, both, chain, crowd, file_names, folder_names, listing
 from discbuilder import one_folder_as, put, stacked_crowd
-from disccase import MOST, DiscCase, rich_disc
+from disccase import MOST, DiscCase, Watched, rich_disc, wrong_images
 from discimages.discs import list_all
 
 RICH_LISTING = (b"/A.;1 10\n"
@@ -15,16 +15,6 @@ RICH_LISTING = (b"/A.;1 10\n"
                 b"/CC/\n"
                 b"/CC/.C;1 2048\n"
                 b"/D/\n")
-
-
-class Watched(list):
-    """A list that can't be changed, not for a while either."""
-
-    def refuse(self, *values, **named):
-        raise AssertionError("what is handed in is changed")
-
-    __setitem__ = __delitem__ = __iadd__ = __imul__ = refuse
-    append = extend = insert = pop = remove = clear = sort = reverse = refuse
 
 
 class OrdinaryImages(DiscCase):
@@ -201,24 +191,13 @@ class Most(DiscCase):
 
 
 class OrderOfRefusals(DiscCase):
-    def wrong_images(self):
-        disc = rich_disc()
-        yield []
-        yield [0] * 100000
-        yield disc.image[:-1]
-        yield put(list(disc.image), MAIN, [2])
-        yield put(list(disc.image), disc.top.record_at(3) + 1, [1])
-        yield put(list(disc.image), disc.higher_place * SECTOR, [2])
-        yield chain(9).image
-        yield Disc([File(b"A.;1", 0, place=22)]).image
-
     def test_a_wrong_most_with_a_wrong_image(self):
-        for image in self.wrong_images():
+        for image in wrong_images():
             for most in (-1, 16777217, -2147483648, 2147483647):
                 self.assertEqual(list_all(most, image), [-2])
 
     def test_a_small_most_with_a_wrong_image(self):
-        for image in self.wrong_images():
+        for image in wrong_images():
             for most in (0, 1, 10, len(RICH_LISTING) - 1, len(RICH_LISTING), 16777216):
                 self.assertEqual(list_all(most, image), [-3])
 

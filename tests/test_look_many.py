@@ -5,7 +5,7 @@ import unittest
 
 from discbuilder import MAIN, SECTOR, Disc, File, Folder, record_length
 from discimages.discs import look
-from disccase import DiscCase, answers, rich_disc
+from disccase import DiscCase, answers, is_refused, rich_disc
 
 
 def member_names(folder):
@@ -47,7 +47,7 @@ class EveryByte(DiscCase):
         image = list(disc.image)
         for at in places:
             image[at] ^= mask
-            if answers(image) != [[-3]] * 3:
+            if not is_refused(image):
                 self.fail(f"byte {at % SECTOR} of sector {at // SECTOR} may be {image[at]}")
             image[at] ^= mask
 
@@ -121,14 +121,16 @@ class ByChance(DiscCase):
             changed = list(image)
             for times in range(chance.randint(1, 4)):
                 changed[chance.randrange(MAIN, len(image))] = chance.choice((0, 1, 2, 34, 255, chance.randrange(256)))
-            looked, briefly, listed = answers(changed)
+            looked, briefly, listed, found, lost = answers(changed)
             if looked == [-3]:
-                self.assertEqual([briefly, listed], [[-3]] * 2)
+                self.assertEqual([briefly, listed, found, lost], [[-3]] * 4)
             else:
                 self.assertEqual((looked[0], len(looked)), (0, 36))
                 self.assertEqual(listed[0], len(listed) - 1)
                 self.assertEqual(listed[1:].count(10), looked[2] - 1 + looked[3])
                 self.assertEqual(briefly, [0] if listed == [0] else [-1])
+                is_there = (b"\n" + bytes(listed[1:])).count(b"\n/A.;1 ") == 1
+                self.assertEqual([found, lost], [[0] if is_there else [-4], [-4]])
 
     def test_bytes_at_random_end_with_an_answer(self):
         chance = random.Random(4)
